@@ -5,7 +5,6 @@ import (
 	"math/rand"
 	"slices"
 	"testing"
-	"unsafe"
 
 	"loop.example/g00967/impl"
 )
@@ -17,41 +16,11 @@ const (
 	mostMaps     = 40
 )
 
-// withSpare returns list in new memory, with as many elements of spare capacity behind it.
-func withSpare(list []impl.Map, spare int) []impl.Map {
-	longer := append(make([]impl.Map, 0, len(list)+spare), list...)
-	for i := range spare {
-		longer = append(longer, impl.Map{Sub: 7 + i, Seq: 8, Len: 9})
-	}
-	return longer[:len(list)]
-}
-
-// sharesMaps reports whether an element of a, or of the spare capacity behind it, is one of b too.
-func sharesMaps(a []impl.Map, b []impl.Map) bool {
-	if cap(a) == 0 || cap(b) == 0 {
-		return false
-	}
-	startA, startB := uintptr(unsafe.Pointer(unsafe.SliceData(a))), uintptr(unsafe.Pointer(unsafe.SliceData(b)))
-	size := unsafe.Sizeof(impl.Map{})
-	return startA < startB+uintptr(cap(b))*size && startB < startA+uintptr(cap(a))*size
-}
-
 // onLists calls f with list, without and with spare capacity, and checks that f leaves both alone and returns want in new memory.
 func onLists(t *testing.T, what string, list []impl.Map, want []impl.Map, f func(list []impl.Map) []impl.Map) {
 	t.Helper()
-	for _, spare := range []int{0, 3} {
-		given := withSpare(list, spare)
-		got := f(given)
-		if !slices.Equal(got, want) {
-			t.Errorf("%s of %v = %v; want %v", what, list, got, want)
-		}
-		if sharesMaps(got, given) {
-			t.Errorf("%s of %v shares memory with its argument", what, list)
-		}
-		if kept := withSpare(list, spare); !slices.Equal(given[:cap(given)], kept[:cap(kept)]) {
-			t.Errorf("%s of %v has changed its argument to %v", what, list, given[:cap(given)])
-		}
-	}
+	spare := []impl.Map{{Sub: 7, Seq: 8, Len: 9}, {Sub: 8, Seq: 8, Len: 9}, {Sub: 9, Seq: 8, Len: 9}}
+	onAnyList(t, what, list, spare, want, f)
 }
 
 func wantMapsOk(t *testing.T, list []impl.Map, want bool) {
@@ -820,21 +789,7 @@ func TestMapsReturnNewMemory(t *testing.T) {
 			"Runs":           impl.Runs,
 		}
 		for name, call := range calls {
-			given := withSpare(list, 2)
-			first, second := call(given), call(given)
-			want := slices.Clone(second)
-			if sharesMaps(first, second) || sharesMaps(first, given) || sharesMaps(second, given) {
-				t.Errorf("the results of %s of %v share memory", name, list)
-			}
-			for i := range first[:cap(first)] {
-				first[:cap(first)][i] = impl.Map{Sub: 99, Seq: 98, Len: 97}
-			}
-			for i := range given[:cap(given)] {
-				given[:cap(given)][i] = impl.Map{Sub: 96, Seq: 95, Len: 94}
-			}
-			if !slices.Equal(second, want) || !slices.Equal(call(withSpare(list, 0)), want) {
-				t.Errorf("%s of %v is changed to %v", name, list, second)
-			}
+			wantOwnLists(t, name, list, impl.Map{Sub: 99, Seq: 98, Len: 97}, call)
 		}
 	}
 }

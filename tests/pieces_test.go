@@ -6,7 +6,6 @@ import (
 	"slices"
 	"strings"
 	"testing"
-	"unsafe"
 
 	"loop.example/g00967/impl"
 )
@@ -43,16 +42,6 @@ func textsOf(p impl.Pieces) []string {
 	return texts
 }
 
-// sharesPieces reports whether an element of a, or of the spare capacity behind it, is one of b too.
-func sharesPieces(a []impl.Piece, b []impl.Piece) bool {
-	if cap(a) == 0 || cap(b) == 0 {
-		return false
-	}
-	startA, startB := uintptr(unsafe.Pointer(unsafe.SliceData(a))), uintptr(unsafe.Pointer(unsafe.SliceData(b)))
-	size := unsafe.Sizeof(impl.Piece{})
-	return startA < startB+uintptr(cap(b))*size && startB < startA+uintptr(cap(a))*size
-}
-
 // wantNewTexts checks that no text of a result is in the memory of an argument, or of another text of the result.
 func wantNewTexts(t *testing.T, what string, given []string, got []string) {
 	t.Helper()
@@ -74,7 +63,7 @@ func onPieces(t *testing.T, what string, p impl.Pieces, text string, want impl.P
 		if !samePieces(got, want) || gotTaken != taken {
 			t.Errorf("%s of %v and %q = %v, %q; want %v, %q", what, p, text, got, gotTaken, want, taken)
 		}
-		if sharesPieces(got.List, given.List) {
+		if sharesElements(got.List, given.List) {
 			t.Errorf("%s of %v and %q shares a list with its argument", what, p, text)
 		}
 		wantNewTexts(t, what, append(textsOf(given), givenText), append(textsOf(got), gotTaken))
@@ -1011,7 +1000,7 @@ func TestPiecesReturnNewMemory(t *testing.T) {
 			given := newPieces(p, 2)
 			one, two := call(given), call(given)
 			want := newPieces(two, 0)
-			if sharesPieces(one.List, two.List) || sharesPieces(one.List, given.List) || sharesPieces(two.List, given.List) {
+			if sharesElements(one.List, two.List) || sharesElements(one.List, given.List) || sharesElements(two.List, given.List) {
 				t.Errorf("the results of %s of %v share a list", name, p)
 			}
 			wantNewTexts(t, name, textsOf(given), append(textsOf(one), textsOf(two)...))

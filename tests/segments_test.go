@@ -826,7 +826,7 @@ func TestReadSegReturnsNewOptions(t *testing.T) {
 	second, _ := impl.ReadSeg(s)
 	for i, o := range first.Opts {
 		for j, other := range first.Opts {
-			if i != j && sharesInts(o.Ids, other.Ids) {
+			if i != j && sharesElements(o.Ids, other.Ids) {
 				t.Errorf("the options %d and %d share memory", i, j)
 			}
 		}
@@ -851,7 +851,7 @@ func TestFirstOptReturnsNewIds(t *testing.T) {
 		first, _ := impl.FirstOpt(x, kind)
 		second, _ := impl.FirstOpt(x, kind)
 		for _, o := range append([]impl.Opt{second}, x.Opts...) {
-			if sharesInts(first.Ids, o.Ids) {
+			if sharesElements(first.Ids, o.Ids) {
 				t.Errorf("the option of kind %d shares memory with %+v", kind, o)
 			}
 		}
@@ -866,7 +866,7 @@ func TestFirstOptReturnsNewIds(t *testing.T) {
 	// An empty list with spare capacity is no part of the result either.
 	empty, _ := impl.FirstOpt(plainSeg("", impl.Opt{Kind: impl.OpFail, Ids: spare[:0]}), impl.OpFail)
 	_ = append(empty.Ids, 99)
-	if sharesInts(empty.Ids, spare) || spare[0] != 1 {
+	if sharesElements(empty.Ids, spare) || spare[0] != 1 {
 		t.Errorf("the empty Ids share memory with those of the argument")
 	}
 	// After the caller has changed a segment, the option that was returned before is as it was.
@@ -874,19 +874,6 @@ func TestFirstOptReturnsNewIds(t *testing.T) {
 	x.Opts[0].Ids[0] = 4
 	wantSameOpt(t, got, gone(3))
 	wantFirstOpt(t, x, impl.OpGone, gone(4))
-}
-
-// sharesInts reports whether an element of a, or of the spare capacity behind it, is one of b too.
-func sharesInts(a []int, b []int) bool {
-	a, b = a[:cap(a)], b[:cap(b)]
-	for i := range a {
-		for j := range b {
-			if &a[i] == &b[j] {
-				return true
-			}
-		}
-	}
-	return false
 }
 
 // No function changes the options of its argument or keeps them, nor the elements behind them.
