@@ -99,15 +99,9 @@ func wantYounger(t *testing.T, list []impl.Half, now int, want ...impl.Half) {
 	onHalfs(t, "Younger", list, want, func(list []impl.Half) []impl.Half { return impl.Younger(list, now) })
 }
 
-// halfField is a number of a pending join.
-type halfField struct {
-	name string
-	of   func(h *impl.Half) *int
-}
-
 // halfFields are all numbers of a pending join; the first three are those of its Road.
-func halfFields() []halfField {
-	return []halfField{
+func halfFields() []intField[impl.Half] {
+	return []intField[impl.Half]{
 		{"Own", func(h *impl.Half) *int { return &h.Road.Own }},
 		{"Far", func(h *impl.Half) *int { return &h.Road.Far }},
 		{"Port", func(h *impl.Half) *int { return &h.Road.Port }},
@@ -117,12 +111,6 @@ func halfFields() []halfField {
 		{"Take", func(h *impl.Half) *int { return &h.Take }},
 		{"Until", func(h *impl.Half) *int { return &h.Until }},
 	}
-}
-
-// set returns h with the number n in the field.
-func (f halfField) set(h impl.Half, n int) impl.Half {
-	*f.of(&h) = n
-	return h
 }
 
 // sameHalfRoad compares the Roads of two pending joins number by number.
